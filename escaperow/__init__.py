@@ -1,0 +1,1 @@
+"""Escaperow: rows of signs in frames."""

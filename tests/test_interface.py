@@ -1,0 +1,78 @@
+"""The interface: each name in its file, with its arguments, and the errors with their values."""
+
+import ast
+import importlib
+import inspect
+import pathlib
+import unittest
+
+from escaperow.errors import BadBody, BadSigns, BadText, BadWay, OtherTop, RowError
+
+FUNCTIONS = {
+    "escaperow.ways": {"need_way": ["way"]},
+    "escaperow.frames": {"framed": ["way", "body"], "body_of": ["way", "signs"]},
+}
+PACKAGE = pathlib.Path(inspect.getfile(RowError)).parent
+ERRORS = (RowError, BadWay, BadBody, BadSigns, OtherTop, BadText)
+
+
+class Functions(unittest.TestCase):
+
+    def test_each_is_defined_in_its_file_with_its_arguments(self):
+        for place, functions in FUNCTIONS.items():
+            module = importlib.import_module(place)
+            for name, arguments in functions.items():
+                with self.subTest(place=place, name=name):
+                    function = getattr(module, name)
+                    self.assertTrue(inspect.isfunction(function))
+                    self.assertEqual(function.__module__, place)
+                    self.assertEqual(list(inspect.signature(function).parameters), arguments)
+
+    def test_arguments_may_be_named(self):
+        framing = importlib.import_module("escaperow.frames")
+        way = ("counts", 4, 0, 3)
+        self.assertIsNone(importlib.import_module("escaperow.ways").need_way(way=way))
+        self.assertEqual(framing.framed(way=way, body=[1]), [2, 1, 0])
+        self.assertEqual(framing.body_of(way=way, signs=[2, 1, 0]), [1])
+
+
+class Package(unittest.TestCase):
+
+    def test_it_reaches_no_clock_no_chance_and_no_files(self):
+        for file in sorted(PACKAGE.rglob("*.py")):
+            for node in ast.walk(ast.parse(file.read_text(encoding="utf-8"))):
+                with self.subTest(file=file.name, line=getattr(node, "lineno", 0)):
+                    self.assertNotIsInstance(node, ast.Import)
+                    if isinstance(node, ast.ImportFrom):
+                        self.assertEqual((node.level, node.module.split(".")[0]), (0, "escaperow"))
+                    if isinstance(node, ast.Name):
+                        self.assertNotIn(node.id, ("open", "input", "id", "hash", "print"))
+
+
+class Errors(unittest.TestCase):
+
+    def test_each_is_a_refusal_of_its_own(self):
+        self.assertEqual(RowError.__bases__, (ValueError,))
+        for error in ERRORS[1:]:
+            with self.subTest(error=error.__name__):
+                self.assertEqual(error.__bases__, (RowError,))
+
+    def test_each_is_defined_in_errors(self):
+        for error in ERRORS:
+            with self.subTest(error=error.__name__):
+                self.assertEqual(error.__module__, "escaperow.errors")
+
+    def test_values_are_set_when_made(self):
+        self.assertEqual(BadWay("limit").why, "limit")
+        self.assertEqual(BadBody(7).at, 7)
+        self.assertEqual(BadSigns(0).at, 0)
+
+    def test_those_without_values_can_be_raised(self):
+        for error in (RowError, OtherTop, BadText):
+            with self.subTest(error=error.__name__):
+                with self.assertRaises(error):
+                    raise error("why")
+
+
+if __name__ == "__main__":
+    unittest.main()
