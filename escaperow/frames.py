@@ -6,6 +6,8 @@ from escaperow.ways import first_unsigned, need_way, plain_signs, unturned
 
 MOST_BODY = 60
 MOST_SIGNS = 400
+# Sixty codes of four signs, and the end.
+LONGEST_FRAME = 241
 
 
 def framed(way, body):
@@ -49,18 +51,23 @@ def top_of(way):
 def frame_of(way, body):
     """The frame of a list of signs, of any number of them."""
     turnings, inner = unturned(way)
+    put_together = FRAMERS[inner[0]]
+    return put_together(inner, exchanged(turnings, body)) + [inner[2]]
+
+
+def exchanged(turnings, body):
+    """The body behind all exchanges, the outermost first."""
     turned = body
     for signs in turnings:
         turned = [signs[sign] for sign in turned]
-    put_together = FRAMERS[inner[0]]
-    return put_together(inner, turned) + [inner[2]]
+    return turned
 
 
 def taken_out(way, signs):
-    """The body of which the signs are the frame, None if they are none's."""
+    """The body of which the signs, of any number, are the frame, None if they are none's."""
     turnings, inner = unturned(way)
     end = inner[2]
-    if signs.count(end) != 1 or signs[-1] != end:
+    if len(signs) > LONGEST_FRAME or signs.count(end) != 1 or signs[-1] != end:
         return None
     take_apart = READERS[inner[0]]
     body = take_apart(inner, signs[:-1])

@@ -19,3 +19,11 @@ def row_of(rank, letters):
         row.append(letters[(left - 1) % many])
         left = (left - 1) // many
     return row[::-1]
+
+
+def rows_up_to(longest, many):
+    """How many rows of at most so many letters there are, of so many letters to choose from."""
+    rows = 0
+    for _ in range(longest + 1):
+        rows = rows * many + 1
+    return rows

@@ -11,6 +11,14 @@ from escaperow.errors import BadBody, BadSigns, BadText, BadWay, OtherTop, RowEr
 FUNCTIONS = {
     "escaperow.ways": {"need_way": ["way"]},
     "escaperow.frames": {"framed": ["way", "body"], "body_of": ["way", "signs"]},
+    "escaperow.streams": {"read": ["way", "signs"]},
+    "escaperow.rooms": {"worst": ["way", "many"], "frames_of": ["way", "size"], "least_room": ["top", "many"]},
+    "escaperow.parting": {"parted": ["way", "other"]},
+    "escaperow.notes": {"written": ["way"], "read_way": ["text"]},
+}
+METHODS = {
+    "Reader": {"__init__": ["self", "way"], "put": ["self", "signs"], "rest": ["self"]},
+    "Writer": {"__init__": ["self", "way"], "put": ["self", "sign"], "close": ["self"]},
 }
 PACKAGE = pathlib.Path(inspect.getfile(RowError)).parent
 ERRORS = (RowError, BadWay, BadBody, BadSigns, OtherTop, BadText)
@@ -34,6 +42,34 @@ class Functions(unittest.TestCase):
         self.assertIsNone(importlib.import_module("escaperow.ways").need_way(way=way))
         self.assertEqual(framing.framed(way=way, body=[1]), [2, 1, 0])
         self.assertEqual(framing.body_of(way=way, signs=[2, 1, 0]), [1])
+        rooms = importlib.import_module("escaperow.rooms")
+        self.assertEqual(rooms.worst(way=way, many=0), (2, []))
+        self.assertEqual(rooms.frames_of(way=way, size=2), 1)
+        self.assertEqual(rooms.least_room(top=4, many=0), 1)
+        self.assertIsNone(importlib.import_module("escaperow.parting").parted(way=way, other=way))
+        notes = importlib.import_module("escaperow.notes")
+        self.assertEqual(notes.read_way(text=notes.written(way=way)), way)
+
+    def test_arguments_of_readers_and_writers_may_be_named(self):
+        streams = importlib.import_module("escaperow.streams")
+        way = ("counts", 4, 0, 3)
+        self.assertEqual(streams.read(way=way, signs=[2, 1, 0, 3]), ([[1]], [3]))
+        self.assertEqual(streams.Reader(way=way).put(signs=[2, 1, 0]), [[1]])
+        self.assertEqual(streams.Writer(way=way).put(sign=0), [1])
+
+
+class Classes(unittest.TestCase):
+
+    def test_each_is_defined_in_streams_with_its_methods_in_itself(self):
+        streams = importlib.import_module("escaperow.streams")
+        for name, methods in METHODS.items():
+            defined = getattr(streams, name)
+            self.assertTrue(inspect.isclass(defined))
+            self.assertEqual(defined.__module__, "escaperow.streams")
+            for method, arguments in methods.items():
+                with self.subTest(name=name, method=method):
+                    self.assertIn(method, vars(defined))
+                    self.assertEqual(list(inspect.signature(vars(defined)[method]).parameters), arguments)
 
 
 class Package(unittest.TestCase):

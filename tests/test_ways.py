@@ -1,9 +1,13 @@
-"""Points 2 and 3: what is a way, and the word with which another one is refused."""
+"""Points 2 and 3: what is a way, and the word with which another one is refused, by all that a way is handed to."""
 
 import unittest
 
 from escaperow.errors import BadBody, BadSigns, BadWay
 from escaperow.frames import body_of, framed
+from escaperow.notes import written
+from escaperow.parting import parted
+from escaperow.rooms import frames_of, worst
+from escaperow.streams import Reader, Writer, read
 from escaperow.ways import need_way
 from helper import small_ways, some_ways
 
@@ -188,13 +192,41 @@ class BadWays(unittest.TestCase):
                 with self.subTest(why=why, case=case, signs=signs):
                     self.assert_refused(why, body_of, way, signs)
 
+    def test_read_refuses_them_ahead_of_any_list(self):
+        for why, case, way in self.cases():
+            for signs in BAD_LISTS:
+                with self.subTest(why=why, case=case, signs=signs):
+                    self.assert_refused(why, read, way, signs)
+
+    def test_readers_writers_and_texts_refuse_them(self):
+        for why, case, way in self.cases():
+            for ask in (Reader, Writer, written):
+                with self.subTest(why=why, case=case, ask=ask.__name__):
+                    self.assert_refused(why, ask, way)
+
+    def test_rooms_refuse_them_with_any_number(self):
+        for why, case, way in self.cases():
+            for ask in (worst, frames_of):
+                for number in (-1, 0, 1, 60, 61):
+                    with self.subTest(why=why, case=case, ask=ask.__name__, number=number):
+                        self.assert_refused(why, ask, way, number)
+
+    def test_parted_refuses_the_one_then_the_other_ahead_of_unlike_tops(self):
+        for why, case, way in self.cases():
+            with self.subTest(why=why, case=case):
+                for other in (ranks(3), ranks(16), counts(2), ranks(2), turned(ranks(3), ()), codes(top=17)):
+                    self.assert_refused(why, parted, way, other)
+                for good in (ranks(3), ranks(16), counts(2)):
+                    self.assert_refused(why, parted, good, way)
+
     def test_the_bodies_and_lists_are_refused_by_a_good_way(self):
         for body in BAD_BODIES[2:]:
             with self.assertRaises(BadBody):
                 framed(ranks(3), body)
         for signs in BAD_LISTS[2:]:
-            with self.assertRaises(BadSigns):
-                body_of(ranks(3), signs)
+            for ask in (body_of, read):
+                with self.assertRaises(BadSigns):
+                    ask(ranks(3), signs)
 
 
 if __name__ == "__main__":
